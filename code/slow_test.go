@@ -8,6 +8,7 @@ import (
 
 	"wanderstaff/api"
 	"wanderstaff/scope"
+	"wanderstaff/verify"
 )
 
 // slow writes code by the chapter's words in another way: each piece is made whole, for the place where it begins, and names are looked for in the blocks around.
@@ -283,6 +284,10 @@ func TestE1Slow(t *testing.T) {
 		}
 		if tell(l) != before {
 			t.Fatalf("%s has become %s", before, tell(l))
+		}
+		// what is made is right (F2)
+		if err == api.OK && verify.Program(got) != api.OK {
+			t.Fatalf("%s: what comes is not right: %d", before, verify.Program(got))
 		}
 	}
 	for _, err := range []api.Errno{api.OK, api.ErrMuch} {
