@@ -22,7 +22,7 @@ func (m *machine) step() api.Event {
 	m.agent.Permit.Fuel--
 	switch in.Op {
 	case api.OpInt:
-		m.push(cell.Int(in.A))
+		m.push(number(in.A))
 	case api.OpText:
 		m.push(cell.Text(m.agent.Program.Words[in.A]))
 	case api.OpLoad:
@@ -121,7 +121,7 @@ func (m *machine) ask() api.Event {
 			return api.Event{}
 		}
 	}
-	m.push(cell.Int(0))
+	m.push(number(0))
 	return api.Event{}
 }
 
@@ -132,7 +132,7 @@ func (m *machine) leave() api.Event {
 		return dead(api.ErrType)
 	}
 	if m.agent.Permit.Hops <= 0 {
-		m.push(cell.Int(0))
+		m.push(number(0))
 		return api.Event{}
 	}
 	m.agent.Permit.Hops--
@@ -164,6 +164,9 @@ func (m *machine) giveBack() api.Event {
 func (m *machine) tell(kind int, v api.Value) api.Event {
 	return api.Event{Kind: kind, Text: cell.Show(m.agent.Heap, v, deep)}
 }
+
+// number is n itself: where a rest is to be taken (chapter 1: Int), the document names it.
+func number(n int) api.Value { return api.Value{Kind: api.ValInt, N: n} }
 
 func dead(err api.Errno) api.Event { return api.Event{Kind: api.EvDead, Err: err} }
 

@@ -159,11 +159,16 @@ func TestG1Answer(t *testing.T) {
 	same(t, "one frame, where nothing lies", going(Answer(alone, 3)), "0 0 0; 0 at 0 [] [3]")
 }
 
-// A number is one that may be: Int (chapter 1) has it.
+// The number is that one, however large it is: of Answer the chapter says no rest.
 func TestG1AnswerOfLargeNumbers(t *testing.T) {
-	for n, want := range map[int]int{api.MaxInt + 1: 0, api.MaxInt + 4: 3, -api.MaxInt - 3: -2, math.MaxInt: 7, math.MinInt: -8} {
-		l := Answer(gone(t), n).Frames[1].Stack
-		same(t, fmt.Sprint(n), values(l...), values(ref(2), num(want)))
+	for _, n := range []int{api.MaxInt + 1, -api.MaxInt - 1, api.MaxInt + 4, 1 << 40, -1 << 40, math.MaxInt, math.MinInt} {
+		b := Answer(gone(t), n)
+		want := gone(t)
+		want.Frames[1].Stack = []api.Value{ref(2), num(n)}
+		same(t, fmt.Sprint(n), whole(b), whole(want))
+		// on an agent about to begin, where nothing lies yet
+		begin := New(0, mustMake(t, "(main () (say 1))"), api.Permit{Fuel: 5})
+		same(t, fmt.Sprint(n), values(Answer(begin, n).Frames[0].Stack...), values(num(n)))
 	}
 }
 
